@@ -1,0 +1,1 @@
+"""Safe for ever: whether a machine of a few bits ever comes to a bad state."""

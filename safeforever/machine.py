@@ -1,0 +1,73 @@
+"""The answers to the calls on one machine."""
+
+from safeforever.automaton import Automaton
+from safeforever.calls import BAD, FIRST, NEXT, REACH, START, WAY, read_calls
+from safeforever.condition import read_condition
+from safeforever.walks import doom, reach, way
+
+MOST_BITS = 6
+MOST_INPUTS = 2
+
+
+def answers(calls):
+    machine = Automaton()
+    told = []
+    for call in read_calls(calls):
+        answer = answer_call(machine, call[0], call[1], call[2])
+        told.append(len(answer))
+        told.extend(answer)
+    return told
+
+
+def answer_call(machine, number, numbers, row):
+    if number == START:
+        return answer_start(machine, numbers[0], numbers[1])
+    if number == NEXT:
+        return answer_next(machine, numbers[0], row)
+    if number == FIRST:
+        return answer_first(machine, row)
+    if number == BAD:
+        return answer_bad(machine, row)
+    if number == REACH:
+        return reach(machine)
+    if number == WAY:
+        return way(machine)
+    return doom(machine)
+
+
+def answer_start(machine, bits, inputs):
+    if bits < 1 or bits > MOST_BITS or inputs > MOST_INPUTS:
+        return [-1]
+    machine.begin(bits, inputs)
+    return [len(machine.after)]
+
+
+def answer_next(machine, bit, row):
+    # Ahead of the condition: of several refusals the one told first is given.
+    if bit >= machine.bits:
+        return [-2]
+    terms = read_condition(row, machine.bits, machine.inputs)
+    if terms is None:
+        return [-1]
+    machine.set_bit(bit, terms)
+    return [bit]
+
+
+def answer_first(machine, row):
+    terms = read_state_condition(machine, row)
+    if terms is None:
+        return [-1]
+    machine.first = machine.states_where(terms)
+    return [len(machine.first)]
+
+
+def answer_bad(machine, row):
+    terms = read_state_condition(machine, row)
+    if terms is None:
+        return [-1]
+    machine.bad = machine.states_where(terms)
+    return [len(machine.bad)]
+
+
+def read_state_condition(machine, row):
+    return read_condition(row, machine.bits, 0)
