@@ -6,13 +6,17 @@ FIRST = 2
 BAD = 3
 REACH = 4
 WAY = 5
+DOOM = 6
+PROOF = 7
+LEAST = 8
+STEPS = 9
+CLAIM = 10
+KEEP = 11
+STEP = 12
 
 # Of each call, by its number: how many whole numbers it has, and how many rows.
-LAYOUTS = ((2, 0), (1, 1), (0, 1), (0, 1), (0, 0), (0, 0), (0, 0))
-
-
-class UnknownCall(ValueError):
-    pass
+LAYOUTS = ((2, 0), (1, 1), (0, 1), (0, 1), (0, 0), (0, 0), (0, 0),
+           (1, 0), (0, 0), (0, 0), (0, 1), (0, 1), (2, 0), (1, 0))
 
 
 # Each call as its number, its whole numbers and its row (empty if it has none).
@@ -21,8 +25,6 @@ def read_calls(calls):
     place = 0
     while place < len(calls):
         number = calls[place]
-        if number >= len(LAYOUTS):
-            raise UnknownCall(f"there is no call {number}")
         layout = LAYOUTS[number]
         place += 1
         numbers = calls[place:place + layout[0]]

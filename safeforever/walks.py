@@ -26,6 +26,11 @@ def way(machine):
     return answer
 
 
+def far(machine, state):
+    steps = steps_to_bad(machine)
+    return [1, steps[state]] if state in steps else [0]
+
+
 def counted(numbers):
     return [len(numbers)] + numbers
 

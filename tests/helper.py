@@ -24,6 +24,31 @@ WAY = [5]
 DOOM = [6]
 
 
+def proof(w):
+    return [7, w]
+
+
+LEAST = [8]
+STEPS = [9]
+
+
+def claim(condition):
+    return [10, len(condition)] + condition
+
+
+def keep(*clauses):
+    row = join([[len(clause)] + clause for clause in clauses])
+    return [11, len(row)] + row
+
+
+def step(state, inputs):
+    return [12, state, inputs]
+
+
+def far(state):
+    return [13, state]
+
+
 def join(calls):
     return [number for call in calls for number in call]
 
@@ -46,6 +71,11 @@ def ask(*calls):
 
 def ask_last(*calls):
     return ask(*calls)[-1]
+
+
+def ask_after(told, *calls):
+    """The answers to the calls behind those told, on a machine told so."""
+    return ask(*told, *calls)[len(told):]
 
 
 def is_state(n, state):
@@ -72,3 +102,8 @@ def counter(n):
         calls.append(next_bit(bit, [7, 2, bit] + carry))
         carry = [5, 2, bit] + carry
     return calls
+
+
+def ring(n):
+    """Calls by which what bit 0 is goes to bit 1, and so on, and round."""
+    return [next_bit(bit, [2, (bit - 1) % n]) for bit in range(n)]

@@ -1,6 +1,6 @@
 import unittest
 
-from tests.helper import (DOOM, REACH, WAY, ask, ask_last, bad, first,
+from tests.helper import (DOOM, REACH, WAY, ask, ask_last, bad, claim, first,
                           is_state, next_bit, start)
 
 HUGE = 4294967295
@@ -125,8 +125,8 @@ class Refused(unittest.TestCase):
     def test_what_is_not_one_condition_of_what_is_there(self):
         for name, condition in REFUSED.items():
             with self.subTest(name):
-                told = ask(next_bit(0, condition), first(condition), bad(condition))
-                self.assertEqual(told, [[-1], [-1], [-1]])
+                told = ask(next_bit(0, condition), first(condition), bad(condition), claim(condition))
+                self.assertEqual(told, [[-1]] * 4)
 
     def test_no_such_input(self):
         for m in range(3):
@@ -136,11 +136,11 @@ class Refused(unittest.TestCase):
         self.assertEqual(ask_last(start(2, 1), next_bit(0, [3, 0])), [0])
         self.assertEqual(ask_last(start(2, 2), next_bit(1, [3, 1])), [1])
 
-    def test_first_and_bad_have_no_input(self):
+    def test_first_bad_and_claim_have_no_input(self):
         for m in range(3):
             for condition in ([3, 0], [3, 1], [5, 0, 3, 0], [8, 1, 1, 3, 0]):
-                told = ask(start(2, m), first(condition), bad(condition))
-                self.assertEqual(told[1:], [[-1], [-1]], (m, condition))
+                told = ask(start(2, m), first(condition), bad(condition), claim(condition))
+                self.assertEqual(told[1:], [[-1]] * 3, (m, condition))
 
     def test_last_bit_that_is_there(self):
         for n in range(1, 7):
@@ -183,6 +183,15 @@ class Length(unittest.TestCase):
         self.assertEqual(self.told([4] * 59 + [1]), [[-1], [-1], [-1]])
         self.assertEqual(self.told([1] * 60), [[-1], [-1], [-1]])
 
+    def test_a_claim(self):
+        # Bit 0 turns, and 3 is bad.
+        told = [next_bit(0, [4, 2, 0]), bad(is_state(2, 3))]
+        self.assertEqual(ask_last(*told, claim([4] * 38 + [2, 1])), [0, 3, 3])
+        self.assertEqual(ask_last(*told, claim([4] * 37 + [2, 1])), [1])
+        self.assertEqual(ask_last(*told, claim([5] * 13 + [2, 0] * 13 + [1])), [0, 2, 1, 0])
+        for condition in ([4] * 39 + [2, 1], [4] * 40 + [0], [5] * 13 + [2, 0] * 14, [4] * 59 + [1], [1] * 60):
+            self.assertEqual(ask_last(*told, claim(condition)), [-1])
+
     def test_nested_to_the_left_and_to_the_right(self):
         self.assertEqual(self.told([7] * 13 + [2, 0] * 13 + [1]), [[0], [2], [2]])
         right = [1]
@@ -201,15 +210,15 @@ class LeftAsItWas(unittest.TestCase):
         self.assertEqual(ask(*told_before, REACH, WAY, DOOM)[4:], good)
         for condition in list(REFUSED.values()) + [[4] * 40 + [1]]:
             for wrong in (next_bit(0, condition), next_bit(1, condition), next_bit(2, condition),
-                          first(condition), bad(condition)):
+                          first(condition), bad(condition), claim(condition)):
                 with self.subTest(wrong):
                     told = ask(*told_before, wrong, REACH, WAY, DOOM)
                     self.assertLess(told[4][0], 0)
                     self.assertEqual(told[5:], good)
 
-    def test_behind_an_input_in_first_or_bad(self):
-        told = ask(first([2, 0]), bad([2, 1]), first([3, 0]), bad([3, 0]), REACH, WAY, DOOM)
-        self.assertEqual(told[2:], [[-1], [-1], [1, 2], [1, 0, 3], [1, 2]])
+    def test_behind_an_input_in_first_bad_or_claim(self):
+        told = ask(first([2, 0]), bad([2, 1]), first([3, 0]), bad([3, 0]), claim([3, 0]), REACH, WAY, DOOM)
+        self.assertEqual(told[2:], [[-1], [-1], [-1], [1, 2], [1, 0, 3], [1, 2]])
 
 
 class ToldAnew(unittest.TestCase):

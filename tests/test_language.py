@@ -27,6 +27,10 @@ setdefault split splitlines startswith strip update upper values zfill bit_lengt
 WORDS = re.compile(r"\b(type|typing|typing_extensions|enum|Enum|IntEnum|StrEnum|Flag|IntFlag|Generic|Protocol|ABC|ABCMeta"
                    r"|namedtuple|NamedTuple|TypedDict|TYPE_CHECKING|abstractmethod)\b|dataclass|overload|contextmanager")
 
+# What is walked at once: where it's called, its parent is a loop or one of these.
+WALKED = set("range enumerate zip reversed items keys values".split())
+WALKERS = set("list tuple dict sorted sum any all enumerate zip min max".split())
+
 PYTHONS_NAMES = set(dir(__builtins__) if not isinstance(__builtins__, dict) else __builtins__)
 
 
@@ -89,6 +93,41 @@ class Language(unittest.TestCase):
             self.assertEqual(used - bound - OWN_NAMES, set(), path)
             self.assertEqual((bound - {"__init__"}) & PYTHONS_NAMES, set(), path)
             self.assertEqual({name for name in bound if name.startswith("_")} - {"__init__"}, set(), path)
+
+    def test_no_local_is_called_like_an_import_or_a_class(self):
+        for path, tree in self.trees.items():
+            outer = {name.name for node in ast.walk(tree) if isinstance(node, ast.ImportFrom) for name in node.names}
+            outer |= {node.name for node in tree.body if isinstance(node, (ast.FunctionDef, ast.ClassDef))}
+            for node in ast.walk(tree):
+                if isinstance(node, ast.arg):
+                    self.assertNotIn(node.arg, outer, self.where(path, node))
+                if isinstance(node, ast.Name) and isinstance(node.ctx, ast.Store):
+                    self.assertNotIn(node.id, outer, self.where(path, node))
+
+    def test_no_two_files_draw_from_one_another(self):
+        drawn = {path.stem: {node.module.split(".")[1] for node in ast.walk(tree) if isinstance(node, ast.ImportFrom)}
+                 for path, tree in self.trees.items()}
+        for start in drawn:
+            seen, ahead = set(), set(drawn[start])
+            while ahead:
+                seen |= ahead
+                ahead = set().union(*[drawn[name] for name in ahead]) - seen
+            self.assertNotIn(start, seen)
+
+    def test_what_is_walked_is_walked_at_once(self):
+        for path, tree in self.trees.items():
+            walked = set()
+            for node in ast.walk(tree):
+                if isinstance(node, (ast.For, ast.comprehension)):
+                    walked.add(node.iter)
+                if isinstance(node, ast.Call) and isinstance(node.func, ast.Name) and node.func.id in WALKERS:
+                    walked.update(node.args[:1])
+            for node in ast.walk(tree):
+                if isinstance(node, ast.Call) and self.called(node) in WALKED:
+                    self.assertIn(node, walked, self.where(path, node))
+
+    def called(self, node):
+        return getattr(node.func, "attr", getattr(node.func, "id", None))
 
     def test_methods(self):
         own = {node.name for path, node in self.nodes(ast.FunctionDef)}
